@@ -1,0 +1,1 @@
+"""What words are worth: machines that tell it letter by letter."""
