@@ -2,33 +2,9 @@
 
 import unittest
 
-from wordworths.kept import Places
-from wordworths.machines import answers, answers_at
-
-BEGIN, NEW, FIRST, LAST, HAND = 0, 1, 2, 3, 4
-P = 2147483647
-LOWEST = -2147483648
-HIGHEST = 2147483647
-HIGHEST_X = 4294967295
-OTHER_PLACES = (-1, 8, -8, LOWEST, HIGHEST)
-
-
-def flat(calls):
-    return [number for call in calls for number in call]
-
-
-def replies(*calls):
-    """The one number that each call answers, with a begin ahead of them."""
-    given = answers(flat([(BEGIN,)] + list(calls)))
-    if given[::2] != [1] * (len(calls) + 1) or len(given) != 2 * (len(calls) + 1):
-        raise AssertionError(given)
-    return given[3::2]
-
-
-def places_after(*calls):
-    places = Places()
-    answers_at(places, flat([(BEGIN,)] + list(calls)))
-    return places
+from tests.calls import (BEGIN, FIRST, HAND, HIGHEST, HIGHEST_X, LAST, LOWEST, NEW, OTHER_PLACES, P, flat, places_after,
+                         replies)
+from wordworths.machines import answers
 
 
 def sizes(slot):

@@ -1,39 +1,36 @@
 """The machines, and the places that they lie at."""
 
-P = 2147483647
 PLACES = 8
-
-
-def is_number(x):
-    return 0 <= x < P
 
 
 def is_place(slot):
     return 0 <= slot < PLACES
 
 
-def square_of_zeros(size):
-    return [[0] * size for row in range(size)]
+def rows_of_zeros(height, width):
+    return [[0] * width for row in range(height)]
 
 
 class Machine:
-    """A machine all of whose numbers are 0 till they are changed.
+    """hands[a][i][j] is what the letter a hands from the state i to the state j."""
 
-    hands[a][i][j] is what the letter a hands from the state i to the state j.
-    """
-
-    def __init__(self, states, letters):
-        self.states = states
-        self.letters = letters
-        self.firsts = [0] * states
-        self.lasts = [0] * states
-        self.hands = [square_of_zeros(states) for letter in range(letters)]
+    def __init__(self, firsts, lasts, hands):
+        self.states = len(firsts)
+        self.letters = len(hands)
+        self.firsts = firsts
+        self.lasts = lasts
+        self.hands = hands
 
     def has_state(self, i):
         return 0 <= i < self.states
 
     def has_letter(self, a):
         return 0 <= a < self.letters
+
+
+def machine_of_zeros(states, letters):
+    hands = [rows_of_zeros(states, states) for letter in range(letters)]
+    return Machine([0] * states, [0] * states, hands)
 
 
 class Places:

@@ -1,16 +1,24 @@
 """The calls, and the walk through a list of them.
 
 Each call is a function of the places and of the reader. It takes all its
-numbers from the reader before it does anything else, so that the next call
-is found behind a refused one too; and it answers a list of numbers.
+numbers from the reader before it refuses or changes anything, so that the next
+call is found behind a refused one too; and it answers a list of numbers.
 """
 
-from wordworths.kept import Machine, Places, is_number, is_place
+from wordworths.fewest import fewest
+from wordworths.kept import Places, is_place, machine_of_zeros
+from wordworths.made import is_kind, made_of_two, states_made
+from wordworths.reading import is_word, worth_of
+from wordworths.rows import is_number
+from wordworths.search import first_word_apart
 
 MOST_STATES = 32
 MOST_LETTERS = 4
+MOST_ROOM = 65536
 DONE = 0
 REFUSED = -1
+TOO_MANY = -2
+THE_SAME = -3
 
 
 class Reader:
@@ -28,6 +36,13 @@ class Reader:
         self.position += 1
         return number
 
+    def take_row(self):
+        """The numbers of a row, which stand behind how many they are."""
+        length = self.take()
+        row = self.calls[self.position:self.position + length]
+        self.position += length
+        return row
+
 
 def begin(places, reader):
     places.make_empty()
@@ -40,7 +55,7 @@ def new(places, reader):
     letters = reader.take()
     if not is_place(slot) or not 1 <= states <= MOST_STATES or not 1 <= letters <= MOST_LETTERS:
         return [REFUSED]
-    places.put(slot, Machine(states, letters))
+    places.put(slot, machine_of_zeros(states, letters))
     return [DONE]
 
 
@@ -87,8 +102,64 @@ def hand(places, reader):
     return [DONE]
 
 
+def worth(places, reader):
+    slot = reader.take()
+    word = reader.take_row()
+    machine = places.machine_at(slot)
+    if machine is None or not is_word(machine, word):
+        return [REFUSED]
+    return [worth_of(machine, word)]
+
+
+def are_comparable(one, other):
+    """Whether both are machines, with as many letters."""
+    return one is not None and other is not None and one.letters == other.letters
+
+
+def make(places, reader):
+    kind = reader.take()
+    one = places.machine_at(reader.take())
+    other = places.machine_at(reader.take())
+    slot = reader.take()
+    if not is_kind(kind) or not is_place(slot) or not are_comparable(one, other):
+        return [REFUSED]
+    if states_made(kind, one, other) > MOST_STATES:
+        return [TOO_MANY]
+    machine = made_of_two(kind, one, other)
+    places.put(slot, machine)
+    return [machine.states]
+
+
+def most_letters_in(room):
+    return room if 1 <= room <= MOST_ROOM else 0
+
+
+def apart(places, reader):
+    one = places.machine_at(reader.take())
+    other = places.machine_at(reader.take())
+    room = reader.take()
+    if not are_comparable(one, other):
+        return [REFUSED]
+    word = first_word_apart(one, other)
+    if word is None:
+        return [THE_SAME]
+    if len(word) > most_letters_in(room):
+        return [TOO_MANY]
+    return [len(word)] + word
+
+
+def least(places, reader):
+    machine = places.machine_at(reader.take())
+    slot = reader.take()
+    if machine is None or not is_place(slot):
+        return [REFUSED]
+    smallest = fewest(machine)
+    places.put(slot, smallest)
+    return [smallest.states]
+
+
 # A call's number is where it stands here.
-CALLS = (begin, new, first, last, hand)
+CALLS = (begin, new, first, last, hand, worth, make, apart, least)
 
 
 def answers_at(places, calls):
